@@ -3,7 +3,7 @@
 A table holds, for each first set, a row with how much is told of it and each second set.
 """
 
-from likeliersets.kinds import KIND_AS_LIKELY, KIND_LIKELIER, LIKELIER, NO_LESS, NOTHING
+from likeliersets.kinds import KIND_AS_LIKELY, KIND_LIKELIER, KIND_NO_LESS, LIKELIER, NO_LESS, NOTHING
 
 
 def row_of_parts(first, size):
@@ -78,3 +78,12 @@ def table_by_rules(worlds, told):
 
 def is_broken(table):
     return LIKELIER in [table[chosen][chosen] for chosen in range(len(table))]
+
+
+def is_told_by(table, one):
+    level = table[one[1]][one[2]]
+    if one[0] == KIND_LIKELIER:
+        return level == LIKELIER
+    if one[0] == KIND_NO_LESS:
+        return level != NOTHING
+    return level != NOTHING and table[one[2]][one[1]] != NOTHING

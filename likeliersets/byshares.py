@@ -67,14 +67,21 @@ def shares_in_order(worlds):
     return ordered
 
 
+def some_have_none(chosen, fitting):
+    return any([share_of(chosen, shares) == 0 for shares in fitting])
+
+
 def fitting_shares(worlds, told):
     return [shares for shares in shares_in_order(worlds) if fit(shares, told)]
 
 
 def told_by_all(first, second, fitting):
-    least = min([lead(first, second, shares) for shares in fitting])
-    if least > 0:
-        return LIKELIER
-    if least == 0:
-        return NO_LESS
-    return NOTHING
+    level = LIKELIER
+    for shares in fitting:
+        more = lead(first, second, shares)
+        # One that goes the other way is enough: of many pairs the rest need not be gone through.
+        if more < 0:
+            return NOTHING
+        if more == 0:
+            level = NO_LESS
+    return level

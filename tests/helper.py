@@ -1,5 +1,7 @@
 """How tests write calls and read answers, and a second, slow telling of the document to compare with."""
 
+import fractions
+import functools
 import itertools
 
 from likeliersets.shares import answers
@@ -43,7 +45,32 @@ def all_shares(a, b):
 
 BROKEN = [10]
 
-LATER_CALLS = [[11], [12], [13, 0], [14, 0, 0, 0], [15], [16], [17], [18, 0], [19, 0], [20]]
+BEYOND = [11]
+WHOLE = [12]
+
+
+def chance(a):
+    return [13, a]
+
+
+def given(a, b, c):
+    return [14, a, b, c]
+
+
+ALIKE = [15]
+CLASHES = [16]
+SPARE = [17]
+
+
+def settled(t):
+    return [18, t]
+
+
+def look(t):
+    return [19, t]
+
+
+STATE = [20]
 
 
 def said(*calls):
@@ -95,15 +122,48 @@ def model_fits(x, told):
     return all([model_agrees(x, one) for one in told])
 
 
+@functools.lru_cache(maxsize=None)
+def every_shares(n, most):
+    every = [x for x in itertools.product(range(most + 1), repeat=n) if 1 <= sum(x) <= most]
+    return tuple(sorted(every, key=lambda x: (sum(x), x)))
+
+
 def model_fitting(n, told, most=10):
-    every = [list(x) for x in itertools.product(range(most + 1), repeat=n) if 1 <= sum(x) <= most]
-    return sorted([x for x in every if model_fits(x, told)], key=lambda x: (sum(x), x))
+    return [list(x) for x in every_shares(n, most) if model_fits(x, told)]
 
 
 def model_all(a, b, fitting):
     if all([share(a, x) > share(b, x) for x in fitting]):
         return 2
     return 1 if all([share(a, x) >= share(b, x) for x in fitting]) else 0
+
+
+def model_chance(a, fitting):
+    chances = [fractions.Fraction(share(a, x), sum(x)) for x in fitting]
+    return [0, min(chances).numerator, min(chances).denominator, max(chances).numerator, max(chances).denominator]
+
+
+def model_given(a, b, c, fitting):
+    return -62 if 0 in [share(c, x) for x in fitting] else model_all(a & c, b & c, fitting)
+
+
+def without_one(told, t):
+    return told[:t] + told[t + 1:]
+
+
+def model_spare(n, told):
+    fitting = model_fitting(n, told)
+    return [t for t in range(len(told)) if model_fitting(n, without_one(told, t)) == fitting]
+
+
+def model_clashes(n, told):
+    clashes = []
+    for some in itertools.product((0, 1), repeat=len(told)):
+        chosen = [one for one, there in zip(told, some) if there]
+        if not model_fitting(n, chosen) and all(
+                [model_fitting(n, without_one(chosen, t)) for t in range(len(chosen))]):
+            clashes.append(sum(2 ** t for t, there in enumerate(some) if there))
+    return sorted(clashes)
 
 
 def subsets(chosen):
@@ -139,6 +199,38 @@ def model_rules(n, told):
         waiting += [(c, b, more or further) for c, d, further in known if d == a]
     return {(a, b): 2 if (a, b, True) in known else int((a, b, False) in known)
             for a in range(every + 1) for b in range(every + 1)}
+
+
+def pairs_apart(n):
+    return [(a, b) for a, b in itertools.product(range(2 ** n), repeat=2) if a & b == 0]
+
+
+def model_whole(n, table):
+    return int(all([table[a, b] or table[b, a] for a, b in pairs_apart(n)]))
+
+
+def model_alike(n, table):
+    return [(a, b) for a, b in pairs_apart(n) if a < b and table[a, b] == table[b, a] == 1]
+
+
+def model_beyond(n, table, fitting):
+    return [(a, b) for a, b in pairs_apart(n) if model_all(a, b, fitting) > table[a, b]]
+
+
+def model_settled(n, told, t):
+    kind, a, b = told[t]
+    table = model_rules(n, without_one(told, t))
+    return int([table[a, b] == 2, table[a, b] > 0, table[a, b] > 0 and table[b, a] > 0][kind])
+
+
+def told_by_shares(source, x, most):
+    """Something told that the shares agree with, so that it isn't broken."""
+    told = []
+    while len(told) < most:
+        one = (source.randrange(3), source.randrange(2 ** len(x)), source.randrange(2 ** len(x)))
+        if model_agrees(x, one):
+            told.append(one)
+    return told
 
 
 def told_at_hand(source, n, most):

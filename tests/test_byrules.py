@@ -23,7 +23,8 @@ class RulesTest(unittest.TestCase):
             self.assertEqual(after(3, [(k, 1, 2), (m, 2, 4)], rules(1, 4)), [[level]], (k, m))
         self.assertEqual(after(3, [(2, 1, 2), (2, 2, 4)], rules(4, 1)), [[1]])
         # 0 over 1, that over none: 01 over 1, with 1 put to both.
-        self.assertEqual(after(3, [(0, 1, 2)], rules(1, 0), rules(3, 2), rules(5, 2), rules(2, 0)), [[2], [2], [2], [1]])
+        self.assertEqual(after(3, [(0, 1, 2)], rules(1, 0), rules(3, 2), rules(5, 2), rules(2, 0)),
+                         [[2], [2], [2], [1]])
 
     def test_put_to_both_and_left_out(self):
         self.assertEqual(after(3, [(0, 1, 2)], rules(5, 6), rules(6, 5)), [[2], [0]])
